@@ -29,10 +29,10 @@ func (r retold) ofKinds(addr uint32, kinds ...api.EventKind) (l []int) {
 	return l
 }
 
-// addrs tells the addresses of accesses, rising.
+// addrs tells the addresses that any event has, EvBegin among them, rising; a fence has none.
 func (r retold) addrs() (l []uint32) {
 	for _, e := range r.Events {
-		if e.Kind != api.EvBegin && e.Kind != api.EvFence && !slices.Contains(l, e.Addr) {
+		if e.Kind != api.EvFence && !slices.Contains(l, e.Addr) {
 			l = append(l, e.Addr)
 		}
 	}
@@ -217,6 +217,16 @@ func anyEvent(source *rand.Rand, hart int, addrs []uint32) api.Event {
 	return e
 }
 
+// anyBegun is the addresses that events have, rising, and often one or two that none of them has.
+func anyBegun(source *rand.Rand, own []api.Event) []uint32 {
+	l := retold{api.Execution{Events: own}}.addrs()
+	for range source.Intn(3) {
+		l = append(l, []uint32{0, 4, 12, 1 << 31, 1<<32 - 8}[source.Intn(5)])
+	}
+	slices.Sort(l)
+	return slices.Compact(l)
+}
+
 // anyExecution is one that may be.
 func anyExecution(source *rand.Rand) api.Execution {
 	var own []api.Event
@@ -227,7 +237,7 @@ func anyExecution(source *rand.Rand) api.Execution {
 		}
 	}
 	var r retold
-	for _, addr := range (retold{api.Execution{Events: own}}).addrs() {
+	for _, addr := range anyBegun(source, own) {
 		r.Events = append(r.Events, api.Event{Hart: -1, Kind: api.EvBegin, Addr: addr, Value: uint32(source.Intn(4))})
 	}
 	begins := len(r.Events)

@@ -2,6 +2,7 @@ package events_test
 
 import (
 	"math"
+	"slices"
 	"testing"
 
 	"quadrille/api"
@@ -395,8 +396,26 @@ func accesses() api.Execution {
 	}
 }
 
+// withBegin is accesses with an EvBegin more ahead of a number, and its list.
+func withBegin(number int, addr uint32) api.Execution {
+	e := with(accesses(), number, api.Event{Hart: -1, Kind: api.EvBegin, Addr: addr})
+	for _, list := range e.Order {
+		for i := range list {
+			if list[i] >= number {
+				list[i]++
+			}
+		}
+	}
+	e.Order = slices.Insert(e.Order, number, []int{number})
+	return e
+}
+
 func TestP6_1Begins(t *testing.T) {
 	begin := func(addr uint32) api.Event { return api.Event{Hart: -1, Kind: api.EvBegin, Addr: addr} }
+	elsewhere := accesses()
+	elsewhere.Events[1].Addr = 12
+	unstored := without(accesses(), 3)
+	unstored.Order[1] = []int{1}
 	swapped := accesses()
 	swapped.Events[0], swapped.Events[1] = swapped.Events[1], swapped.Events[0]
 	for _, r := range []struct {
@@ -411,16 +430,23 @@ func TestP6_1Begins(t *testing.T) {
 		{"the first twice", with(accesses(), 1, begin(4)), api.ErrEvent},
 		{"the second twice", with(accesses(), 2, begin(8)), api.ErrEvent},
 		{"the first again behind the second", with(accesses(), 2, begin(4)), api.ErrEvent},
-		{"of an address that no event has, ahead", with(accesses(), 0, begin(0)), api.ErrEvent},
-		{"of an address that no event has, behind", with(accesses(), 2, begin(12)), api.ErrEvent},
-		{"of an address that no event has, alone", loads(0), api.ErrEvent},
-		{"of an address that a fence seems to have", with(with(accesses(), 2, api.Event{Kind: api.EvFence}), 0, begin(0)), api.ErrEvent},
+		{"of an address that it alone has, ahead", withBegin(0, 0), api.OK},
+		{"of an address that it alone has, behind", withBegin(2, 12), api.OK},
+		{"of the last address, that it alone has", withBegin(2, 1<<32-4), api.OK},
+		{"of an address that it alone has, out of order", withBegin(0, 12), api.ErrEvent},
+		{"of an address that it alone has, no multiple of 4", withBegin(2, 13), api.ErrEvent},
+		{"of an address that it alone has, without its list", with(accesses(), 2, begin(12)), api.ErrOrder},
+		{"of an address that it alone has, in place of one that is used", elsewhere, api.ErrEvent},
+		{"of an address that it alone has, twice", with(withBegin(2, 12), 3, begin(12)), api.ErrEvent},
+		{"of an address that it alone has, behind an event", with(accesses(), 3, begin(12)), api.ErrEvent},
+		{"of an address that a fence seems to have", with(withBegin(0, 0), 5, api.Event{Kind: api.EvFence}), api.OK},
 		{"out of order", swapped, api.ErrEvent},
 		{"the second behind an event", without(with(accesses(), 3, begin(8)), 1), api.ErrEvent},
 		{"the second behind all events", without(with(accesses(), 4, begin(8)), 1), api.ErrEvent},
 		{"the first behind all events", without(with(accesses(), 4, begin(4)), 0), api.ErrEvent},
 		{"one more behind all events", with(accesses(), 4, begin(8)), api.ErrEvent},
-		{"a store too few", without(accesses(), 3), api.ErrEvent},
+		{"a store too few, that its list tells", without(accesses(), 3), api.ErrOrder},
+		{"a store too few, that no list tells", unstored, api.OK},
 		{"a fence, which needs none", with(accesses(), 4, api.Event{Kind: api.EvFence}), api.OK},
 		{"a store of an address more", with(accesses(), 4, api.Event{Kind: api.EvStore, Addr: 12}), api.ErrEvent},
 		{"a load of an address more", with(accesses(), 4, api.Event{Kind: api.EvLoad, Addr: 12}), api.ErrEvent},
@@ -436,6 +462,62 @@ func TestP6_1Begins(t *testing.T) {
 	}
 	if err := events.Check(high); err != api.OK {
 		t.Errorf("addresses rise as words without a sign: %v", err)
+	}
+}
+
+// begins is an execution of so many EvBegin, each of an address that it alone has.
+func begins(many int) (e api.Execution) {
+	for number := range many {
+		e.Events = append(e.Events, api.Event{Hart: -1, Kind: api.EvBegin, Addr: uint32(4 * number), Value: uint32(number % 2)})
+		e.From = append(e.From, -1)
+		e.Order = append(e.Order, []int{number})
+	}
+	return e
+}
+
+// TestP6_1BeginsAlone has no event but EvBegin: each has its own address, so none needs another event.
+func TestP6_1BeginsAlone(t *testing.T) {
+	from := func(l ...int) func(e *api.Execution) { return func(e *api.Execution) { e.From = l } }
+	order := func(l ...[]int) func(e *api.Execution) { return func(e *api.Execution) { e.Order = l } }
+	for _, r := range []struct {
+		name   string
+		many   int
+		change func(e *api.Execution)
+		want   api.Errno
+	}{
+		{"one", 1, from(-1), api.OK},
+		{"one, that has a Value", 1, func(e *api.Execution) { e.Events[0].Value = 1 << 31 }, api.OK},
+		{"one, not of the address 0", 1, func(e *api.Execution) { e.Events[0].Addr = 1<<32 - 4 }, api.OK},
+		{"one, no multiple of 4", 1, func(e *api.Execution) { e.Events[0].Addr = 2 }, api.ErrEvent},
+		{"one, of a hart", 1, func(e *api.Execution) { e.Events[0].Hart = 0 }, api.ErrEvent},
+		{"one, neither From nor Order", 1, func(e *api.Execution) { e.From, e.Order = []int{}, [][]int{} }, api.ErrFrom},
+		{"one, no From", 1, from(), api.ErrFrom},
+		{"one, From itself", 1, from(0), api.ErrFrom},
+		{"one, From too long", 1, from(-1, -1), api.ErrFrom},
+		{"one, no Order", 1, order(), api.ErrOrder},
+		{"one, an empty list", 1, order(nil), api.ErrOrder},
+		{"one, a list too many", 1, order([]int{0}, []int{0}), api.ErrOrder},
+		{"one, twice in its list", 1, order([]int{0, 0}), api.ErrOrder},
+		{"one, a list of what is not there", 1, order([]int{1}), api.ErrOrder},
+		{"two", 2, from(-1, -1), api.OK},
+		{"two of one address", 2, func(e *api.Execution) { e.Events[1].Addr = 0 }, api.ErrEvent},
+		{"two, falling", 2, func(e *api.Execution) { e.Events[0].Addr = 8 }, api.ErrEvent},
+		{"two, From one another", 2, from(1, 0), api.ErrFrom},
+		{"two, one list", 2, order([]int{0, 1}), api.ErrOrder},
+		{"two, their lists falling", 2, order([]int{1}, []int{0}), api.ErrOrder},
+		{"MaxEvents", api.MaxEvents, func(*api.Execution) {}, api.OK},
+		{"one more", api.MaxEvents + 1, func(*api.Execution) {}, api.ErrLong},
+	} {
+		e := begins(r.many)
+		r.change(&e)
+		if err := events.Check(e); err != r.want {
+			t.Errorf("%s: %v, want %v", r.name, err, r.want)
+		}
+		for i, l := range relations(e) { // one store an address is ahead of none, and EvBegin are in no program order
+			if len(l) != 0 {
+				t.Errorf("%s: relation %d has %v", r.name, i, l)
+			}
+		}
 	}
 }
 

@@ -1,10 +1,6 @@
 package events
 
-import (
-	"maps"
-
-	"quadrille/api"
-)
+import "quadrille/api"
 
 const (
 	wordBytes = 4
@@ -69,18 +65,20 @@ func depsMayBe(l []api.Event, number int) bool {
 	return true
 }
 
-// begunWhereUsed tells whether there is an EvBegin of each address that another event has, and of no other one.
+// begunWhereUsed tells whether there is an EvBegin of each address that an event has. Those of EvBegin need no asking: each is its address's own. As they stand first, an address that an access has is begun by then.
 func begunWhereUsed(l []api.Event) bool {
-	begun, used := map[uint32]struct{}{}, map[uint32]struct{}{}
+	begun := map[uint32]struct{}{}
 	for _, e := range l {
 		switch e.Kind {
 		case api.EvBegin:
 			begun[e.Addr] = struct{}{}
 		case api.EvLoad, api.EvStore, api.EvBoth:
-			used[e.Addr] = struct{}{}
+			if _, ok := begun[e.Addr]; !ok {
+				return false
+			}
 		}
 	}
-	return maps.Equal(begun, used)
+	return true
 }
 
 // fromMayBe tells whether each event that loads reads from one that it may read from, and no other event does.

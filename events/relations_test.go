@@ -87,6 +87,22 @@ func TestP6_2Apart(t *testing.T) {
 	tell(t, e, nil, p(0, 2), p(1, 3), nil)
 }
 
+// TestP6_2BeginAlone has an EvBegin of an address that no other event has, behind another one and between two.
+func TestP6_2BeginAlone(t *testing.T) {
+	e := api.Execution{
+		Events: []api.Event{{Hart: -1, Kind: api.EvBegin}, {Hart: -1, Kind: api.EvBegin, Addr: 4}, {Kind: api.EvStore, Value: 2}, {Kind: api.EvBoth, ReadValue: 2}},
+		From:   []int{-1, -1, -1, 2},
+		Order:  [][]int{{0, 2, 3}, {1}},
+	}
+	tell(t, e, p(2, 3), p(2, 3), p(0, 2, 0, 3, 2, 3), nil)
+	e = api.Execution{
+		Events: []api.Event{{Hart: -1, Kind: api.EvBegin}, {Hart: -1, Kind: api.EvBegin, Addr: 4}, {Hart: -1, Kind: api.EvBegin, Addr: 8}, {Kind: api.EvLoad, Addr: 8}, {Kind: api.EvStore, Addr: 8, Value: 1}, {Hart: 1, Kind: api.EvLoad}},
+		From:   []int{-1, -1, -1, 2, -1, 0},
+		Order:  [][]int{{0}, {1}, {2, 4}},
+	}
+	tell(t, e, p(3, 4), p(0, 5, 2, 3), p(2, 4), p(3, 4))
+}
+
 func TestP6_2StoresLoads(t *testing.T) {
 	for _, r := range []struct {
 		kind          api.EventKind
